@@ -7,9 +7,15 @@ BRING = 1
 STRAW = 2
 TAKE = 3
 FACES = 4
+BEST = 5
+ORDER = 6
+WATER = 7
+LAY = 8
+STACK = 9
+FOLLOW = 10
 
-# How many whole numbers stand behind each call's own; begin has a row instead.
-WIDTHS = (0, 2, 2, 1, 0, 0)
+# How many whole numbers stand behind each call's own; begin and water have a row instead.
+WIDTHS = (0, 2, 2, 1, 0, 0, 0, 0, 1, 1, 1, 0)
 
 NO_HOUSE = -9
 
@@ -33,7 +39,7 @@ def split_calls(calls):
         number = calls[at]
         start = at + 1
         end = start + WIDTHS[number]
-        if number == BEGIN:
+        if number == BEGIN or number == WATER:
             start = at + 2
             end = start + calls[at + 1]
         parts.append([number] + calls[start:end])
@@ -55,5 +61,17 @@ def answer_call(house, number, given):
         return house.take(given[0])
     if number == FACES:
         return house.faces()
-    # WIDTHS knows no other call, so this one is best.
-    return house.best()
+    if number == BEST:
+        return house.best()
+    if number == ORDER:
+        return house.order()
+    if number == WATER:
+        return house.water(given)
+    if number == LAY:
+        return house.lay(given[0])
+    if number == STACK:
+        return house.stack(given[0])
+    if number == FOLLOW:
+        return house.follow(given[0])
+    # WIDTHS knows no other call, so this one is look.
+    return house.look()

@@ -1,17 +1,47 @@
 """The orders in which the blocks of a heap can be taken, and which of them are best."""
 
-from icehouse.heaps import open_faces
+from icehouse.heaps import columns_with_blocks, heap_after, open_faces
 
 
-def best_orders(heap, straw):
-    """The water of a best order of the heap, and how many orders are best."""
-    best = {}
-    # What the heap left by a day comes to with that day's own water.
-    reached = {}
-    for rest in heaps_within(heap):
-        best[rest] = best_way([reached[after] for after in heaps_after_a_day(rest)])
-        reached[rest] = (best[rest][0] + open_faces(rest, straw), best[rest][1])
-    return best[tuple(heap)]
+class BestOrders:
+    """The best orders of heaps (tuples) on which the same straw lies.
+
+    What is found of a heap is kept, for the next call and since many heaps can become the same one.
+    """
+
+    def __init__(self, straw):
+        self.straw = straw
+        self.found = {}
+
+    def best(self, heap):
+        """The water of a best order of the heap, and how many orders are best."""
+        way = self.with_day_before(heap)
+        return (way[0] - open_faces(heap, self.straw), way[1])
+
+    def with_day_before(self, heap):
+        """As best, the water of the day that leaves this heap counted in."""
+        if heap not in self.found:
+            way = best_way(self.ways(heap))
+            self.found[heap] = (way[0] + open_faces(heap, self.straw), way[1])
+        return self.found[heap]
+
+    def ways(self, heap):
+        """For each column that has a block, from the left: what the heap comes to when it is taken of first."""
+        return [self.with_day_before(heap_after(heap, column)) for column in columns_with_blocks(heap)]
+
+    def first(self, heap):
+        """The first of the best orders of the heap."""
+        order = []
+        while sum(heap) > 0:
+            column = self.first_column(heap)
+            order.append(column)
+            heap = heap_after(heap, column)
+        return order
+
+    def first_column(self, heap):
+        """The leftmost column with which a best order of the heap begins."""
+        waters = [way[0] for way in self.ways(heap)]
+        return columns_with_blocks(heap)[waters.index(min(waters))]
 
 
 def best_way(ways):
@@ -21,24 +51,3 @@ def best_way(ways):
         return (0, 1)
     least = min([way[0] for way in ways])
     return (least, sum([way[1] for way in ways if way[0] == least]))
-
-
-def heaps_within(heap):
-    """All that can be left of the heap, each behind all that can be left of it in turn."""
-    heaps = [()]
-    for height in heap:
-        longer = []
-        for start in heaps:
-            for level in range(height + 1):
-                longer.append(start + (level,))
-        heaps = longer
-    return heaps
-
-
-def heaps_after_a_day(heap):
-    """What one block taken can leave of the heap (a tuple), from the leftmost column on."""
-    heaps = []
-    for column, height in enumerate(heap):
-        if height > 0:
-            heaps.append(heap[:column] + (height - 1,) + heap[column + 1:])
-    return heaps

@@ -29,6 +29,30 @@ def best():
     return [5]
 
 
+def order():
+    return [6]
+
+
+def water(row):
+    return [7, len(row)] + list(row)
+
+
+def lay(n):
+    return [8, n]
+
+
+def stack(n):
+    return [9, n]
+
+
+def follow(n):
+    return [10, n]
+
+
+def look():
+    return [11]
+
+
 def joined(calls):
     """One list of calls, as it is handed in."""
     line = []
@@ -89,23 +113,57 @@ def naive_faces(heap, laid):
     return count
 
 
-def naive_waters(heap, laid):
-    """The water of each order of the heap: all orders, one by one."""
+def naive_orders(heap, laid):
+    """The water and the columns of each order of the heap: all orders, one by one."""
     if not any(heap):
-        return [0]
-    waters = []
+        return [(0, [])]
+    orders = []
     for column in range(len(heap)):
         if heap[column]:
             rest = list(heap)
             rest[column] -= 1
             day = naive_faces(rest, laid)
-            waters += [day + water for water in naive_waters(rest, laid)]
-    return waters
+            orders += [(day + water, [column] + row) for water, row in naive_orders(rest, laid)]
+    return orders
 
 
 def naive_best(heap, laid):
-    waters = naive_waters(heap, laid)
+    waters = [water for water, row in naive_orders(heap, laid)]
     return [min(waters), waters.count(min(waters))]
+
+
+def naive_order(heap, laid):
+    row = min(naive_orders(heap, laid))[1]
+    return [len(row)] + row
+
+
+def naive_water(heap, laid, row):
+    """None if some day there is no block."""
+    rest = list(heap)
+    water = 0
+    for column in row:
+        if not rest[column]:
+            return None
+        rest[column] -= 1
+        water += naive_faces(rest, laid)
+    return water
+
+
+def naive_lay(heap, n, best_of=naive_best):
+    """All ways to lay straw on so many columns or fewer, one by one."""
+    ways = [laid for laid in straws(len(heap)) if sum(laid) <= n]
+    return highest_of_least([(best_of(heap, laid)[0], laid) for laid in ways])
+
+
+def naive_stack(laid, n, best_of=naive_best):
+    """All heaps of so many blocks, one by one."""
+    stacked = [heap for heap in heaps(len(laid)) if sum(heap) == n]
+    return highest_of_least([(best_of(heap, laid)[0], heap) for heap in stacked])
+
+
+def highest_of_least(found):
+    least = min(water for water, row in found)
+    return [least] + list(max(row for water, row in found if water == least))
 
 
 def counted_best(heap, laid):

@@ -3,7 +3,7 @@
 import unittest
 
 from icehouse.melt import answers
-from lines import begin, best, bring, faces, joined, straw, take, told
+from lines import begin, best, bring, faces, follow, joined, lay, look, order, stack, straw, take, told, water
 
 
 def refuse_change(*given, **named):
@@ -47,21 +47,25 @@ class Written(unittest.TestCase):
 class NoHouse(unittest.TestCase):
     def test_all_but_begin_are_refused(self):
         self.assertEqual(told(bring(0, 1), straw(0, 1), take(0), faces(), best()), [[-9]] * 5)
+        self.assertEqual(told(order(), water([0]), lay(1), stack(1), follow(1), look()), [[-9]] * 6)
 
     def test_counts_before_all_other_refusals(self):
         self.assertEqual(told(bring(9, 1), bring(0, 0), bring(9, 9), straw(9, 0), straw(0, 9), straw(9, 9), take(9)),
                          [[-9]] * 7)
+        self.assertEqual(told(water([9]), lay(6), stack(20), follow(0)), [[-9]] * 4)
 
     def test_a_wrong_begin_is_refused_as_ever(self):
         self.assertEqual(told(begin([]), begin([4]), take(0)), [[-1], [-1], [-9]])
 
     def test_what_was_refused_is_not_done_later(self):
         self.assertEqual(told(bring(0, 1), straw(0, 1), begin([1]), faces()), [[-9], [-9], [0], [4]])
+        self.assertEqual(told(follow(1), lay(1), begin([1]), look()), [[-9], [-9], [0], [0, 1, 0, 0, 1, 0]])
 
 
 class Kept(unittest.TestCase):
     def test_the_list_handed_in_is_unchanged(self):
-        calls = [begin([2, 1]), bring(1, 1), straw(0, 1), take(0), faces(), best(), begin([4]), take(0), best()]
+        calls = [begin([2, 1]), bring(1, 1), straw(0, 1), take(0), faces(), best(), begin([4]), take(0), best(),
+                 order(), water([0, 1]), lay(1), stack(3), follow(1), water([9]), look()]
         line = Handed(joined(calls))
         answers(line)
         self.assertEqual(line, joined(calls))
@@ -74,11 +78,20 @@ class Kept(unittest.TestCase):
         self.assertEqual(answers(first), once)
         self.assertEqual(once, [1, 0, 1, 8, 1, 6, 2, 3, 1])
 
+    def test_days_straw_and_water_are_not_kept(self):
+        first = joined([begin([2, 1]), straw(0, 1), follow(2), bring(1, 1), look()])
+        second = joined([look(), begin([2, 1]), lay(1), order(), stack(2), look()])
+        once = answers(first)
+        self.assertEqual(told(look(), begin([2, 1]), lay(1), order(), stack(2), look()),
+                         [[-9], [0], [8, 1, 0], [3, 0, 0, 1], [4, 2, 0], [0, 3, 0, 0, 2, 1, 0, 0]])
+        self.assertEqual(answers(second), answers(second))
+        self.assertEqual(answers(first), once)
+
     def test_what_is_given_back_can_be_changed(self):
-        line = joined([begin([2, 1]), best()])
+        line = joined([begin([2, 1]), best(), order(), look()])
         given = answers(line)
         given.clear()
-        self.assertEqual(answers(line), [1, 0, 2, 10, 2])
+        self.assertEqual(answers(line), [1, 0, 2, 10, 2, 4, 3, 0, 0, 1, 8, 0, 3, 0, 0, 2, 1, 0, 0])
 
 
 if __name__ == "__main__":
